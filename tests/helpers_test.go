@@ -11,23 +11,31 @@ const (
 	mark    = -77 // stands in spare memory, and is scribbled over answers
 )
 
-// spare copies a list into longer memory, so that an append to the list, or an
+// spareOf copies a list into longer memory, so that an append to the list, or an
 // answer that shares its memory, is seen.
-func spare(list []int64) (whole []int64, part []int64) {
-	whole = make([]int64, len(list)+4)
+func spareOf[T any](list []T, with T) (whole []T, part []T) {
+	whole = make([]T, len(list)+4)
 	copy(whole, list)
 	for i := len(list); i < len(whole); i++ {
-		whole[i] = mark
+		whole[i] = with
 	}
 	return whole, whole[:len(list)]
 }
 
-// scribble overwrites all memory that can be reached by a list.
-func scribble(list []int64) {
+func spare(list []int64) (whole []int64, part []int64) {
+	return spareOf(list, mark)
+}
+
+// scribbleOf overwrites all memory that can be reached by a list.
+func scribbleOf[T any](list []T, with T) {
 	list = list[:cap(list)]
 	for i := range list {
-		list[i] = mark
+		list[i] = with
 	}
+}
+
+func scribble(list []int64) {
+	scribbleOf(list, mark)
 }
 
 // steps is a row of numbers that looks like chance and is always the same.
