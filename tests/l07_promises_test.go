@@ -131,8 +131,8 @@ func TestEveryShortPlan(t *testing.T) {
 	})
 }
 
-// Promise 1: every two threads with plans of up to two ops, one of which begins
-// with both locks taken, so that there is something to wait for.
+// Promise 1: every two threads with plans of up to two ops, where the first one
+// takes both locks ahead of these, so that there is something to wait for.
 func TestEveryTwoShortPlans(t *testing.T) {
 	of := shortOps()
 	eachQueue(2, placesOf(of), func(first []int64) {
