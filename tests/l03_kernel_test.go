@@ -86,66 +86,69 @@ func sound() impl.Kernel {
 	return k
 }
 
+// turnedKernels are sound ones in which something is turned, with the code that
+// is asked first.
+var turnedKernels = []struct {
+	name string
+	turn func(k *impl.Kernel)
+	want int64
+}{
+	{"sound", func(k *impl.Kernel) {}, impl.OK},
+	{"nobody runs", func(k *impl.Kernel) { k.Run = nobody }, impl.OK},
+	{"one that owns nothing runs", func(k *impl.Kernel) { k.Run = 1 }, impl.OK},
+	{"the last one runs", func(k *impl.Kernel) { k.Run = 3 }, impl.OK},
+	{"somebody runs at the phase 1", func(k *impl.Kernel) { k.Tick = 1 }, impl.OK},
+	{"somebody runs at the phase 8", func(k *impl.Kernel) { k.Tick = 8 }, impl.OK},
+	{"somebody runs at the last tick", func(k *impl.Kernel) { k.Tick = 100000 }, impl.OK},
+	{"nobody runs at the phase 0", func(k *impl.Kernel) { k.Tick, k.Run = 9, nobody }, impl.OK},
+	{"one that is not alive has a zero account", func(k *impl.Kernel) { k.Accounts[2] = impl.Account{} }, impl.OK},
+	{"no owners", func(k *impl.Kernel) { k.Owners = nil }, impl.ErrMany},
+	{"too many owners", func(k *impl.Kernel) { k.Owners = repeat(impl.Free, 13) }, impl.ErrMany},
+	{"a bad owner", func(k *impl.Kernel) { k.Owners[2] = 4 }, impl.ErrRange},
+	{"a bad owner below", func(k *impl.Kernel) { k.Owners[2] = -2 }, impl.ErrRange},
+	{"one owns too many", func(k *impl.Kernel) { k.Owners = repeat(0, 7) }, impl.ErrFull},
+	{"none of alive", func(k *impl.Kernel) { k.Alive = nil }, impl.ErrMany},
+	{"few of alive", func(k *impl.Kernel) { k.Alive = k.Alive[:3] }, impl.ErrMany},
+	{"many of alive", func(k *impl.Kernel) { k.Alive = append(k.Alive, false) }, impl.ErrMany},
+	{"no accounts", func(k *impl.Kernel) { k.Accounts = nil }, impl.ErrMany},
+	{"few accounts", func(k *impl.Kernel) { k.Accounts = k.Accounts[:3] }, impl.ErrMany},
+	{"many accounts", func(k *impl.Kernel) { k.Accounts = append(k.Accounts, impl.Account{}) }, impl.ErrMany},
+	{"a bad first account", func(k *impl.Kernel) { k.Accounts[0].Used = -1 }, impl.ErrRange},
+	{"a bad last account", func(k *impl.Kernel) { k.Accounts[3].Debt = 4 }, impl.ErrRange},
+	{"too much used", func(k *impl.Kernel) { k.Accounts[1].Used = most + 1 }, impl.ErrRange},
+	{"too much excess", func(k *impl.Kernel) { k.Accounts[1].Excess = most + 1 }, impl.ErrRange},
+	{"too much given", func(k *impl.Kernel) { k.Accounts[1].Given = most + 1 }, impl.ErrRange},
+	{"tick below", func(k *impl.Kernel) { k.Tick = -1 }, impl.ErrRange},
+	{"tick above", func(k *impl.Kernel) { k.Tick = 100001 }, impl.ErrRange},
+	{"the lowest tick", func(k *impl.Kernel) { k.Tick = lowest }, impl.ErrRange},
+	{"the highest tick", func(k *impl.Kernel) { k.Tick = highest }, impl.ErrRange},
+	{"run below", func(k *impl.Kernel) { k.Run = -2 }, impl.ErrRange},
+	{"run above", func(k *impl.Kernel) { k.Run = 4 }, impl.ErrRange},
+	{"the lowest run", func(k *impl.Kernel) { k.Run = lowest }, impl.ErrRange},
+	{"the highest run", func(k *impl.Kernel) { k.Run = highest }, impl.ErrRange},
+	{"the first owner is not alive", func(k *impl.Kernel) { k.Owners[0] = 2 }, impl.ErrState},
+	{"the last owner is not alive", func(k *impl.Kernel) { k.Owners[3] = 2 }, impl.ErrState},
+	{"who runs is not alive", func(k *impl.Kernel) { k.Run = 2 }, impl.ErrState},
+	{"somebody runs at the first tick", func(k *impl.Kernel) { k.Tick = 0 }, impl.ErrState},
+	{"somebody runs at a phase 0", func(k *impl.Kernel) { k.Tick = 99 }, impl.ErrState},
+	{"who is not alive has used", func(k *impl.Kernel) { k.Accounts[2].Used = 1 }, impl.ErrState},
+	{"who is not alive has excess", func(k *impl.Kernel) { k.Accounts[2].Excess = 1 }, impl.ErrState},
+	{"who is not alive was given", func(k *impl.Kernel) { k.Accounts[2].Given = 1 }, impl.ErrState},
+	{"who is not alive has a debt", func(k *impl.Kernel) { k.Accounts[2].Debt = 1 }, impl.ErrState},
+	{"nobody is alive", func(k *impl.Kernel) { k.Alive = make([]bool, 4) }, impl.ErrState},
+	{"full, and many", func(k *impl.Kernel) { k.Owners, k.Alive = repeat(0, 7), nil }, impl.ErrFull},
+	{"a bad owner, and many", func(k *impl.Kernel) { k.Owners[0], k.Accounts = 4, nil }, impl.ErrRange},
+	{"many, and a bad account", func(k *impl.Kernel) { k.Alive, k.Accounts[0].Used = nil, -1 }, impl.ErrMany},
+	{"many, and a bad tick", func(k *impl.Kernel) { k.Accounts, k.Tick = k.Accounts[:3], -1 }, impl.ErrMany},
+	{"many, and a state", func(k *impl.Kernel) { k.Alive, k.Run, k.Tick = k.Alive[:1], 2, 0 }, impl.ErrMany},
+	{"a bad account, and a state", func(k *impl.Kernel) { k.Accounts[2].Debt = 4 }, impl.ErrRange},
+	{"a bad tick, and a state", func(k *impl.Kernel) { k.Tick, k.Owners[0] = -9, 2 }, impl.ErrRange},
+	{"a bad run, and a state", func(k *impl.Kernel) { k.Run, k.Tick = 4, 0 }, impl.ErrRange},
+	{"all at once", func(k *impl.Kernel) { *k = impl.Kernel{Tick: -1, Run: 4} }, impl.ErrMany},
+}
+
 func TestKernelFault(t *testing.T) {
-	cases := []struct {
-		name string
-		turn func(k *impl.Kernel)
-		want int64
-	}{
-		{"sound", func(k *impl.Kernel) {}, impl.OK},
-		{"nobody runs", func(k *impl.Kernel) { k.Run = nobody }, impl.OK},
-		{"one that owns nothing runs", func(k *impl.Kernel) { k.Run = 1 }, impl.OK},
-		{"the last one runs", func(k *impl.Kernel) { k.Run = 3 }, impl.OK},
-		{"somebody runs at the phase 1", func(k *impl.Kernel) { k.Tick = 1 }, impl.OK},
-		{"somebody runs at the phase 8", func(k *impl.Kernel) { k.Tick = 8 }, impl.OK},
-		{"somebody runs at the last tick", func(k *impl.Kernel) { k.Tick = 100000 }, impl.OK},
-		{"nobody runs at the phase 0", func(k *impl.Kernel) { k.Tick, k.Run = 9, nobody }, impl.OK},
-		{"one that is not alive has a zero account", func(k *impl.Kernel) { k.Accounts[2] = impl.Account{} }, impl.OK},
-		{"no owners", func(k *impl.Kernel) { k.Owners = nil }, impl.ErrMany},
-		{"too many owners", func(k *impl.Kernel) { k.Owners = repeat(impl.Free, 13) }, impl.ErrMany},
-		{"a bad owner", func(k *impl.Kernel) { k.Owners[2] = 4 }, impl.ErrRange},
-		{"a bad owner below", func(k *impl.Kernel) { k.Owners[2] = -2 }, impl.ErrRange},
-		{"one owns too many", func(k *impl.Kernel) { k.Owners = repeat(0, 7) }, impl.ErrFull},
-		{"none of alive", func(k *impl.Kernel) { k.Alive = nil }, impl.ErrMany},
-		{"few of alive", func(k *impl.Kernel) { k.Alive = k.Alive[:3] }, impl.ErrMany},
-		{"many of alive", func(k *impl.Kernel) { k.Alive = append(k.Alive, false) }, impl.ErrMany},
-		{"no accounts", func(k *impl.Kernel) { k.Accounts = nil }, impl.ErrMany},
-		{"few accounts", func(k *impl.Kernel) { k.Accounts = k.Accounts[:3] }, impl.ErrMany},
-		{"many accounts", func(k *impl.Kernel) { k.Accounts = append(k.Accounts, impl.Account{}) }, impl.ErrMany},
-		{"a bad first account", func(k *impl.Kernel) { k.Accounts[0].Used = -1 }, impl.ErrRange},
-		{"a bad last account", func(k *impl.Kernel) { k.Accounts[3].Debt = 4 }, impl.ErrRange},
-		{"too much used", func(k *impl.Kernel) { k.Accounts[1].Used = most + 1 }, impl.ErrRange},
-		{"too much excess", func(k *impl.Kernel) { k.Accounts[1].Excess = most + 1 }, impl.ErrRange},
-		{"too much given", func(k *impl.Kernel) { k.Accounts[1].Given = most + 1 }, impl.ErrRange},
-		{"tick below", func(k *impl.Kernel) { k.Tick = -1 }, impl.ErrRange},
-		{"tick above", func(k *impl.Kernel) { k.Tick = 100001 }, impl.ErrRange},
-		{"the lowest tick", func(k *impl.Kernel) { k.Tick = lowest }, impl.ErrRange},
-		{"the highest tick", func(k *impl.Kernel) { k.Tick = highest }, impl.ErrRange},
-		{"run below", func(k *impl.Kernel) { k.Run = -2 }, impl.ErrRange},
-		{"run above", func(k *impl.Kernel) { k.Run = 4 }, impl.ErrRange},
-		{"the lowest run", func(k *impl.Kernel) { k.Run = lowest }, impl.ErrRange},
-		{"the highest run", func(k *impl.Kernel) { k.Run = highest }, impl.ErrRange},
-		{"the first owner is not alive", func(k *impl.Kernel) { k.Owners[0] = 2 }, impl.ErrState},
-		{"the last owner is not alive", func(k *impl.Kernel) { k.Owners[3] = 2 }, impl.ErrState},
-		{"who runs is not alive", func(k *impl.Kernel) { k.Run = 2 }, impl.ErrState},
-		{"somebody runs at the first tick", func(k *impl.Kernel) { k.Tick = 0 }, impl.ErrState},
-		{"somebody runs at a phase 0", func(k *impl.Kernel) { k.Tick = 99 }, impl.ErrState},
-		{"who is not alive has used", func(k *impl.Kernel) { k.Accounts[2].Used = 1 }, impl.ErrState},
-		{"who is not alive has excess", func(k *impl.Kernel) { k.Accounts[2].Excess = 1 }, impl.ErrState},
-		{"who is not alive was given", func(k *impl.Kernel) { k.Accounts[2].Given = 1 }, impl.ErrState},
-		{"who is not alive has a debt", func(k *impl.Kernel) { k.Accounts[2].Debt = 1 }, impl.ErrState},
-		{"nobody is alive", func(k *impl.Kernel) { k.Alive = make([]bool, 4) }, impl.ErrState},
-		{"full, and many", func(k *impl.Kernel) { k.Owners, k.Alive = repeat(0, 7), nil }, impl.ErrFull},
-		{"a bad owner, and many", func(k *impl.Kernel) { k.Owners[0], k.Accounts = 4, nil }, impl.ErrRange},
-		{"many, and a bad account", func(k *impl.Kernel) { k.Alive, k.Accounts[0].Used = nil, -1 }, impl.ErrMany},
-		{"many, and a bad tick", func(k *impl.Kernel) { k.Accounts, k.Tick = k.Accounts[:3], -1 }, impl.ErrMany},
-		{"many, and a state", func(k *impl.Kernel) { k.Alive, k.Run, k.Tick = k.Alive[:1], 2, 0 }, impl.ErrMany},
-		{"a bad account, and a state", func(k *impl.Kernel) { k.Accounts[2].Debt = 4 }, impl.ErrRange},
-		{"a bad tick, and a state", func(k *impl.Kernel) { k.Tick, k.Owners[0] = -9, 2 }, impl.ErrRange},
-		{"a bad run, and a state", func(k *impl.Kernel) { k.Run, k.Tick = 4, 0 }, impl.ErrRange},
-		{"all at once", func(k *impl.Kernel) { *k = impl.Kernel{Tick: -1, Run: 4} }, impl.ErrMany},
-	}
-	for _, c := range cases {
+	for _, c := range turnedKernels {
 		k := sound()
 		c.turn(&k)
 		wantCode(t, c.name, impl.KernelFault(k), c.want)
