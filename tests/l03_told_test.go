@@ -169,18 +169,23 @@ func toldDoTick(k impl.Kernel, a impl.Act) impl.KernelResult {
 	return impl.KernelResult{Kernel: k, Notes: notes}
 }
 
+func toldMeet(k impl.Kernel, e impl.Event) impl.KernelResult {
+	if code := toldEventFault(e); code != impl.OK {
+		return impl.KernelResult{Code: code}
+	}
+	if e.Kind == 1 {
+		return toldDoTick(k, e.Act)
+	}
+	return toldDoCall(k, e.Call)
+}
+
 func toldRun(slots int64, events []impl.Event) impl.RunResult {
 	if !among(slots, 1, 12) || len(events) > 400 {
 		return impl.RunResult{Code: impl.ErrMany}
 	}
 	run := impl.RunResult{Kernel: kernelOf(0, -1, repeat(impl.Free, int(slots)))}
 	for _, e := range events {
-		met := impl.KernelResult{Code: toldEventFault(e)}
-		if met.Code == impl.OK && e.Kind == 1 {
-			met = toldDoTick(run.Kernel, e.Act)
-		} else if met.Code == impl.OK {
-			met = toldDoCall(run.Kernel, e.Call)
-		}
+		met := toldMeet(run.Kernel, e)
 		run.Codes = append(run.Codes, met.Code)
 		if met.Code == impl.OK {
 			run.Kernel = met.Kernel
